@@ -1,7 +1,7 @@
 """The desk: it takes calls, and answers them one behind another."""
 
 from flowrules.reading import read_calls
-from flowrules.rules import MOST_RULES, OutChange, PutChange, Rule, SwapChange
+from flowrules.rules import MOST_RULES, OutChange, PutChange, Rule, SwapChange, deed_by_rules
 from flowrules.table import Table
 
 OPENING = 1
@@ -12,9 +12,13 @@ MOST_WORD_VALUE = 65535
 MOST_OCTET = 255
 MOST_FRAME = 256
 MOST_WAITING = 16
+MOST_TICKS = 100000
+MOST_NOW = 1073741824
+MOST_FLOWS = 64
 
 NOT_AS_TOLD = -2
 TOO_MANY_WAIT = -5
+NONE_THERE = -6
 NO_DESK = -7
 CHANGE_FAILED = -100
 
@@ -64,6 +68,10 @@ def is_put_as_told(call):
 def is_frame_as_told(call):
     size = call.numbers[0]
     return is_within(size, 0, MOST_FRAME) and are_octets(call.rows[0], size)
+
+
+def are_ticks(number):
+    return is_within(number, 1, MOST_TICKS)
 
 
 def key_of(frame, places):
@@ -127,7 +135,74 @@ def sort_call(desk, call):
     return desk.table.sort_frame(desk.rules, key, call.numbers[0], desk.now)
 
 
-ANSWERING = {2: put, 3: out, 4: swap, 5: commit, 6: forget, 7: sort_call}
+def try_call(desk, call):
+    if not is_frame_as_told(call):
+        return [NOT_AS_TOLD]
+    return [deed_by_rules(desk.rules, key_of(call.rows[0], desk.places))]
+
+
+def tick(desk, call):
+    ticks = call.numbers[0]
+    if not are_ticks(ticks) or desk.now + ticks > MOST_NOW:
+        return [NOT_AS_TOLD]
+    desk.now += ticks
+    return [desk.now]
+
+
+def age(desk, call):
+    ticks = call.numbers[0]
+    if not are_ticks(ticks):
+        return [NOT_AS_TOLD]
+    return [desk.table.let_old_go(ticks, desk.now)]
+
+
+def tell_flow(desk, call):
+    number = call.numbers[0]
+    if not is_within(number, 0, MOST_FLOWS - 1):
+        return [NOT_AS_TOLD]
+    flows = desk.table.in_order()
+    if number >= len(flows):
+        return [NONE_THERE]
+    flow = flows[number]
+    return [0] + flow.key + [flow.deed, flow.frames, flow.octets, flow.seen]
+
+
+def tell_flows(desk, call):
+    of_rows = [len(row) for row in desk.table.rows]
+    return [sum(of_rows)] + of_rows
+
+
+def tell_rule(desk, call):
+    place = call.numbers[0]
+    if not is_place(place):
+        return [NOT_AS_TOLD]
+    if place >= len(desk.rules):
+        return [NONE_THERE]
+    rule = desk.rules[place]
+    return [0] + rule.mask + rule.value + [rule.word, rule.lo, rule.hi, rule.deed]
+
+
+def tell_counts(desk, call):
+    table = desk.table
+    of_frames = [table.frames_known, table.frames_learnt, table.flows_displaced]
+    return [0] + of_frames + [len(desk.rules), len(desk.waiting), desk.now]
+
+
+ANSWERING = {
+    2: put,
+    3: out,
+    4: swap,
+    5: commit,
+    6: forget,
+    7: sort_call,
+    8: try_call,
+    9: tick,
+    10: age,
+    11: tell_flow,
+    12: tell_flows,
+    13: tell_rule,
+    14: tell_counts,
+}
 
 
 def answer_at(desk, call):

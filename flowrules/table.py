@@ -30,26 +30,49 @@ class Flow:
 
 
 class Table:
-    """The flows, row by row, in the order in which they were learnt."""
+    """The flows, row by row, in the order in which they were learnt, and what sorting came to so far."""
 
     def __init__(self, seed):
         self.seed = seed
         self.rows = [[] for row in range(ROWS)]
+        self.frames_known = 0
+        self.frames_learnt = 0
+        self.flows_displaced = 0
 
     def sort_frame(self, rules, key, size, now):
         """The frame's deed, and whether its flow was there or is learnt."""
         row = self.rows[row_number(self.seed, key)]
         flow = flow_of(row, key)
-        if flow is not None:
-            flow.count_frame(size, now)
-            return [flow.deed, WAS_THERE]
-        deed = deed_by_rules(rules, key)
+        if flow is None:
+            deed = deed_by_rules(rules, key)
+            return [deed, self.learn(row, Flow(key, deed, size, now))]
+        flow.count_frame(size, now)
+        self.frames_known = (self.frames_known + 1) % BEYOND_32_BITS
+        return [flow.deed, WAS_THERE]
+
+    def learn(self, row, flow):
+        """Puts the flow behind the others of its row; tells whether one went for it."""
+        self.frames_learnt = (self.frames_learnt + 1) % BEYOND_32_BITS
         told = LEARNT
         if len(row) == MOST_IN_ROW:
             row.pop(least_lately_seen(row))
+            self.flows_displaced = (self.flows_displaced + 1) % BEYOND_32_BITS
             told = LEARNT_FOR_ANOTHER
-        row.append(Flow(key, deed, size, now))
-        return [deed, told]
+        row.append(flow)
+        return told
+
+    def let_old_go(self, ticks, now):
+        """All flows not seen for so many ticks go; how many did."""
+        before = len(self.in_order())
+        self.rows = [seen_lately(row, ticks, now) for row in self.rows]
+        return before - len(self.in_order())
+
+    def in_order(self):
+        """All flows, row by row."""
+        flows = []
+        for row in self.rows:
+            flows.extend(row)
+        return flows
 
     def follow_rules(self, rules):
         """Each flow's deed becomes that by the rules as they are."""
@@ -79,3 +102,7 @@ def least_lately_seen(row):
         if flow.seen < row[oldest].seen:
             oldest = place
     return oldest
+
+
+def seen_lately(row, ticks, now):
+    return [flow for flow in row if now - flow.seen < ticks]

@@ -34,6 +34,34 @@ def sort_call(frame, n=None):
     return [7, len(frame) if n is None else n, len(frame)] + list(frame)
 
 
+def try_call(frame, n=None):
+    return [8, len(frame) if n is None else n, len(frame)] + list(frame)
+
+
+def tick_call(n):
+    return [9, n]
+
+
+def age_call(n):
+    return [10, n]
+
+
+def flow_call(i):
+    return [11, i]
+
+
+def flows_call():
+    return [12]
+
+
+def rule_call(place):
+    return [13, place]
+
+
+def counts_call():
+    return [14]
+
+
 def octets(**places):
     """Sixteen bytes, 0 but at those told: octets(b3=7) has 7 at 3."""
     row = [0] * 16

@@ -1,6 +1,7 @@
-"""A second, plainer making of the calls 1 to 7, to set the program's answers against.
+"""A second, plainer making of the calls, to set the program's answers against.
 
-Keys and rules are numbers of 128 bits here, and the flows are one list without rows.
+Keys and rules are numbers of 128 bits here, and the flows are one list without rows. No flow has a deed of its own:
+the document says that learnt or not, the deed is that of the first rule that fits.
 """
 
 FIRST_BITS = 128
@@ -45,6 +46,7 @@ class Model:
         self.there = True
         self.seed, self.places = seed, places
         self.rules, self.changes, self.flows = [], [], []
+        self.now, self.sorted_as = 0, [0, 0, 0]
         return [0]
 
     def wait(self, good, change):
@@ -86,20 +88,83 @@ class Model:
         changes, self.changes = self.changes, []
         return [len(changes)]
 
+    def key(self, frame):
+        long = list(frame) + [0] * 256
+        return as_number([long[place] for place in self.places])
+
+    def row(self, key):
+        return row_of(self.seed, key)
+
     def sort(self, n, frame):
         if not self.there:
             return [-7]
         if n not in range(257):
             return [-2]
-        long = list(frame) + [0] * 256
-        key = as_number([long[place] for place in self.places])
-        # The document's own words: learnt or not, the deed is that of the first rule that fits.
-        deed = deed_of(self.rules, key)
-        if key in self.flows:
-            return [deed, 0]
-        # Now stays 0 without ticks, so of a full row the first goes.
-        row = [other for other in self.flows if row_of(self.seed, other) == row_of(self.seed, key)]
+        key = self.key(frame)
+        known = [flow for flow in self.flows if flow["key"] == key]
+        for flow in known:
+            flow.update(frames=flow["frames"] + 1, bytes=flow["bytes"] + n, seen=self.now)
+        told = 0 if known else self.learn(key, n)
+        self.sorted_as[told] += 1
+        return [deed_of(self.rules, key), told]
+
+    def learn(self, key, n):
+        row = [flow for flow in self.flows if self.row(flow["key"]) == self.row(key)]
         if len(row) == 4:
-            self.flows.remove(row[0])
-        self.flows.append(key)
-        return [deed, 2 if len(row) == 4 else 1]
+            self.flows.remove(sorted(row, key=lambda flow: flow["seen"])[0])
+        self.flows.append({"key": key, "frames": 1, "bytes": n, "seen": self.now})
+        return 2 if len(row) == 4 else 1
+
+    def attempt(self, n, frame):
+        if not self.there:
+            return [-7]
+        return [deed_of(self.rules, self.key(frame))] if n in range(257) else [-2]
+
+    def tick(self, n):
+        if not self.there:
+            return [-7]
+        if n not in range(1, 100001) or self.now + n > 2 ** 30:
+            return [-2]
+        self.now += n
+        return [self.now]
+
+    def age(self, n):
+        if not self.there:
+            return [-7]
+        if n not in range(1, 100001):
+            return [-2]
+        old = [flow for flow in self.flows if flow["seen"] + n <= self.now]
+        self.flows = [flow for flow in self.flows if flow not in old]
+        return [len(old)]
+
+    def flow(self, i):
+        if not self.there:
+            return [-7]
+        if i not in range(64):
+            return [-2]
+        for flow in sorted(self.flows, key=lambda flow: self.row(flow["key"]))[i:i + 1]:
+            return [0, *flow["key"].to_bytes(16, "big"), deed_of(self.rules, flow["key"]), flow["frames"],
+                    flow["bytes"], flow["seen"]]
+        return [-6]
+
+    def flows_of_rows(self):
+        if not self.there:
+            return [-7]
+        rows = [self.row(flow["key"]) for flow in self.flows]
+        return [len(rows)] + [rows.count(number) for number in range(16)]
+
+    def rule(self, place):
+        if not self.there:
+            return [-7]
+        if place not in range(32):
+            return [-2]
+        for rule in self.rules[place:place + 1]:
+            return [0, *rule["mask"].to_bytes(16, "big"), *(rule["mask"] & rule["value"]).to_bytes(16, "big"),
+                    rule["word"], rule["lo"], rule["hi"], rule["deed"]]
+        return [-6]
+
+    def counts(self):
+        if not self.there:
+            return [-7]
+        there, alone, for_another = self.sorted_as
+        return [0, there, alone + for_another, for_another, len(self.rules), len(self.changes), self.now]

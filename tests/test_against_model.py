@@ -4,12 +4,13 @@ import random
 import unittest
 
 from flowrules.desk import answers
-from tests.lines import (apart, commit_call, forget_call, joined, open_call, out_call, put_call, sort_call,
-                         swap_call)
+from tests.lines import (age_call, apart, commit_call, counts_call, flow_call, flows_call, forget_call, joined,
+                         open_call, out_call, put_call, rule_call, sort_call, swap_call, tick_call, try_call)
 from tests.model import Model
 
 LISTS = 1500
 ODD = (-2147483648, -1, 32, 256, 257, 65536, 2147483647)
+FAR = (-2147483648, -1, 0, 100000, 100001, 2147483647)
 
 
 class Maker:
@@ -58,20 +59,64 @@ class Maker:
     def forget(self):
         return ("forget",), forget_call()
 
-    def sort(self):
+    def sized(self, name, build):
         if self.chance.random() < 0.03:
             n = self.chance.choice((-1, 257, -2147483648, 2147483647))
-            return ("sort", n, []), sort_call([], n=n)
+            return (name, n, []), build([], n=n)
         frame = self.frame()
-        return ("sort", len(frame), frame), sort_call(frame)
+        return (name, len(frame), frame), build(frame)
+
+    def sort(self):
+        return self.sized("sort", sort_call)
+
+    def attempt(self):
+        return self.sized("attempt", try_call)
+
+    def ticks(self):
+        return self.now_and_then(self.chance.choice((1, 1, 2, 3, 5, 9)), FAR)
+
+    def tick(self):
+        n = self.ticks()
+        return ("tick", n), tick_call(n)
+
+    def age(self):
+        n = self.ticks()
+        return ("age", n), age_call(n)
+
+    def flow(self):
+        i = self.now_and_then(self.chance.choice((0, 0, 1, 2, 3, 4, 5, 8, 13, 63)), ODD + (64,))
+        return ("flow", i), flow_call(i)
+
+    def flows_of_rows(self):
+        return ("flows_of_rows",), flows_call()
+
+    def rule(self):
+        place = self.now_and_then(self.chance.choice((0, 0, 1, 2, 3, 31)), ODD)
+        return ("rule", place), rule_call(place)
+
+    def counts(self):
+        return ("counts",), counts_call()
 
     def line(self):
         names = ["put"] * 10 + ["out", "swap", "swap"] + ["commit"] * self.chance.choice((1, 3)) + ["sort"] * 10
+        names = names + (["tick"] * 4 + ["age", "attempt", "flow", "flow", "flows_of_rows", "rule", "counts"]) \
+            * self.chance.choice((0, 1, 1, 2))
         if self.chance.random() < 0.3:
             names = names + ["forget", "open"]
         first = [] if self.chance.random() < 0.05 else ["open"]
         picked = first + [self.chance.choice(names) for k in range(self.chance.randrange(1, 60))]
         return [getattr(self, name)() for name in picked]
+
+    def crowded_line(self):
+        """Rows that fill up and empty while time goes on, and all flows told at the end."""
+        names = ["tick"] * 2 + ["crowd"] * 12 + ["age", "counts"]
+        picked = ["open"] + [self.chance.choice(names) for k in range(46)] + ["flows_of_rows", "counts"]
+        flows = [(("flow", i), flow_call(i)) for i in range(11)]
+        return [getattr(self, name)() for name in picked] + flows
+
+    def crowd(self):
+        frame = [self.chance.choice((0, 16, 32, 48)) for k in range(4)] + [0] * self.chance.choice((0, 9, 252))
+        return ("sort", len(frame), frame), sort_call(frame)
 
 
 def model_answers(calls):
@@ -79,25 +124,41 @@ def model_answers(calls):
     return [getattr(model, call[0])(*call[1:]) for call in calls]
 
 
+def lines():
+    return [Maker(number).line() if number % 5 else Maker(number).crowded_line() for number in range(LISTS)]
+
+
 class AgainstModel(unittest.TestCase):
     def test_made_up_lists(self):
-        for number in range(LISTS):
-            line = Maker(number).line()
+        for number, line in enumerate(lines()):
+            handed_in = joined([numbers for call, numbers in line])
+            before = list(handed_in)
             expected = model_answers([call for call, numbers in line])
-            told = apart(answers(joined([numbers for call, numbers in line])))
-            self.assertEqual(told, expected, f"list {number}")
+            self.assertEqual(apart(answers(handed_in)), expected, f"list {number}")
+            self.assertEqual(handed_in, before, f"list {number}")
+            self.assertLessEqual(len(line), 60)
 
     def test_the_lists_reach_what_they_are_to_reach(self):
         seen = {}
-        for number in range(LISTS):
-            calls = [call for call, numbers in Maker(number).line()]
+        for line in lines():
+            calls = [call for call, numbers in line]
             for call, answer in zip(calls, model_answers(calls)):
                 told = (call[0], answer[-1]) if call[0] == "sort" or answer[0] < 0 else (call[0], "taken")
                 seen[told] = seen.get(told, 0) + 1
+                if call[0] == "age" and answer[0] > 0:
+                    seen["flows went by age"] = True
+                if call[0] == "counts" and answer[3:4] > [0]:
+                    seen["flows went for others"] = True
+        for name in ("sort", "attempt", "tick", "age", "flow", "flows_of_rows", "rule", "counts", "put", "out", "swap",
+                     "commit", "forget"):
+            self.assertGreater(seen.get((name, -7), 0), 0, name)
         for told in (("sort", 0), ("sort", 1), ("sort", 2), ("sort", -2), ("put", -2), ("put", -5), ("put", "taken"),
                      ("commit", "taken"), ("commit", -100), ("commit", -101), ("commit", -105), ("swap", -2),
-                     ("out", -5), ("forget", "taken"), ("forget", -7), ("commit", -7)):
+                     ("out", -5), ("forget", "taken"), ("attempt", "taken"), ("attempt", -2), ("tick", "taken"),
+                     ("tick", -2), ("age", "taken"), ("age", -2), ("flow", "taken"), ("flow", -2), ("flow", -6),
+                     ("flows_of_rows", "taken"), ("rule", "taken"), ("rule", -2), ("rule", -6), ("counts", "taken")):
             self.assertGreater(seen.get(told, 0), 0, told)
+        self.assertTrue(seen.get("flows went by age") and seen.get("flows went for others"))
 
 
 if __name__ == "__main__":

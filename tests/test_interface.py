@@ -8,8 +8,8 @@ from unittest import mock
 
 from flowrules.desk import answers
 from flowrules.reading import read_calls
-from tests.lines import (commit_call, forget_call, joined, octets, open_call, out_call, put_call, run, sort_call,
-                         swap_call)
+from tests.lines import (age_call, commit_call, counts_call, flow_call, flows_call, forget_call, joined, octets,
+                         open_call, out_call, put_call, rule_call, run, sort_call, swap_call, tick_call, try_call)
 
 LINE = [
     open_call(7, list(range(3, 19))),
@@ -26,6 +26,19 @@ LINE = [
     forget_call(),
     put_call(32),
     sort_call([1, 2, 3]),
+    tick_call(40),
+    try_call([0, 0, 0, 3] + [0] * 14 + [6]),
+    sort_call([1, 2, 3]),
+    flow_call(1),
+    flow_call(2),
+    age_call(40),
+    flows_call(),
+    flow_call(0),
+    rule_call(0),
+    rule_call(2),
+    put_call(0),
+    counts_call(),
+    age_call(0),
 ]
 
 
@@ -39,8 +52,16 @@ class Answers(unittest.TestCase):
         self.assertEqual(answers(line), [1, -7, 1, 0, 1, 1, 1, -100, 1, -2])
 
     def test_the_calls_are_answered_in_order(self):
-        self.assertEqual(run(*LINE), [
+        # The key of the frame of three bytes is all zeros, and its row 2; the other's is 7.
+        kept = [0] * 17 + [8, 3, 9, 40]
+        other = [0, 3] + [0] * 14 + [6, 9, 1, 256, 0]
+        rule = [0, 255] + [0] * 15 + [3] + [0] * 15 + [14, 5, 77, 9]
+        told = run(*LINE)
+        self.assertEqual(told[:14], [
             [0], [1], [2], [3], [2], [8, 1], [9, 1], [1], [2], [-101], [1], [1], [-2], [8, 0]])
+        self.assertEqual(told[14:], [
+            [40], [9], [8, 0], other, [-6], [1], [1, 0, 0, 1] + [0] * 13, kept, rule, [-6], [1],
+            [0, 2, 2, 0, 2, 1, 40], [-2]])
 
     def test_a_list_of_one_call(self):
         self.assertEqual(answers([5]), [1, -7])

@@ -2,8 +2,8 @@
 
 import unittest
 
-from tests.lines import (ANY, commit_call, forget_call, open_call, out_call, put_call, run, run_open, sort_call,
-                         swap_call)
+from tests.lines import (ANY, age_call, commit_call, counts_call, flow_call, flows_call, forget_call, open_call,
+                         out_call, put_call, rule_call, run, run_open, sort_call, swap_call, tick_call, try_call)
 
 FAR = (-2147483648, 2147483647)
 
@@ -11,22 +11,25 @@ FAR = (-2147483648, 2147483647)
 class NoDesk(unittest.TestCase):
     def test_every_call_but_open_without_a_desk(self):
         calls = [put_call(0), out_call(0), swap_call(0, 0), commit_call(), forget_call(), sort_call([1]),
-                 [8, 1, 1, 5], [9, 1], [10, 1], [11, 0], [12], [13, 0], [14]]
+                 try_call([5]), tick_call(1), age_call(1), flow_call(0), flows_call(), rule_call(0), counts_call()]
         for call in calls:
             with self.subTest(call=call[0]):
                 self.assertEqual(run(call), [[-7]])
         self.assertEqual(run(*calls), [[-7]] * len(calls))
 
     def test_before_all_else(self):
-        calls = [put_call(-1), out_call(32), swap_call(32, 0), sort_call([], n=257), [8, -1, 0], [9, 0],
-                 [10, 0], [11, 64], [13, 32]]
+        calls = [put_call(-1), out_call(32), swap_call(32, 0), sort_call([], n=257), try_call([], n=-1),
+                 tick_call(0), age_call(100001), flow_call(64), rule_call(32)]
         for call in calls:
             with self.subTest(call=call[0]):
                 self.assertEqual(run(call), [[-7]])
 
     def test_a_call_without_a_desk_leaves_nothing(self):
-        told = run(put_call(0), open_call(), commit_call())
-        self.assertEqual(told, [[-7], [0], [0]])
+        told = run(put_call(0), tick_call(5), sort_call([1]), open_call(), commit_call(), counts_call(), flows_call())
+        self.assertEqual(told, [[-7], [-7], [-7], [0], [0], [0] * 7, [0] * 17])
+
+    def test_a_refused_open_makes_no_desk(self):
+        self.assertEqual(run(open_call(-1), counts_call()), [[-2], [-7]])
 
 
 class NotAsTold(unittest.TestCase):
@@ -96,6 +99,14 @@ class NotAsTold(unittest.TestCase):
         for seed in (0, 4294967295):
             self.assertEqual(run(open_call(seed, [255] * 16)), [[0]])
 
+    def test_rows_of_another_length(self):
+        for short in ([0] * 15, [0] * 17):
+            self.assertEqual(run(open_call(0, short)), [[-2]])
+            self.assert_refused(put_call(0, mask=short))
+            self.assert_refused(put_call(0, value=short))
+            self.assert_refused(sort_call(short, n=16))
+            self.assert_refused(try_call(short, n=16))
+
     def test_bytes_that_are_none(self):
         for octet in (-1, 256):
             row = [0] * 15 + [octet]
@@ -132,6 +143,20 @@ class RefusalsChangeNothing(unittest.TestCase):
         told = run_open(put_call(0, deed=5), put_call(32, deed=6), out_call(32), swap_call(0, 32),
                         put_call(0, deed=256), commit_call(), sort_call([1]))
         self.assertEqual(told, [[1], [-2], [-2], [-2], [-2], [1], [5, 1]])
+
+    def test_no_refusal_changes_what_is_told(self):
+        before = [put_call(0, deed=9), commit_call(), put_call(0, deed=8), sort_call([1]), tick_call(3),
+                  sort_call([2]), tick_call(4)]
+        asked = [counts_call(), flows_call(), flow_call(0), flow_call(1), rule_call(0), sort_call([1]), commit_call(),
+                 try_call([1]), tick_call(1), age_call(5), counts_call()]
+        refused = [open_call(-1), put_call(32), put_call(0, lo=2, hi=1), out_call(-1), swap_call(0, 32),
+                   sort_call([], n=257), sort_call([], n=-1), try_call([], n=257), tick_call(0), tick_call(100001),
+                   age_call(0), age_call(100001), flow_call(64), flow_call(-1), rule_call(32), rule_call(-1)]
+        not_there = [flow_call(2), flow_call(63), rule_call(1), rule_call(31)]
+        expected = run_open(*before, *asked)[len(before):]
+        told = run_open(*before, *refused, *not_there, *asked)[len(before):]
+        self.assertEqual(told[:20], [[-2]] * 16 + [[-6]] * 4)
+        self.assertEqual(told[20:], expected)
 
     def test_a_refused_sort_learns_nothing(self):
         told = run_open(sort_call([], n=257), sort_call([], n=-1), sort_call([]))
